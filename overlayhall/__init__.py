@@ -1,0 +1,1 @@
+"""Overlayhall: programs greater than the room that they are done in."""

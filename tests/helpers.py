@@ -1,0 +1,57 @@
+"""Programs for the tests, put together from small bodies."""
+
+ARGUMENT = ("argument",)
+ONE = ("num", 1)
+
+
+def num(n):
+    return ("num", n)
+
+
+def way(f):
+    return ("way", f)
+
+
+def program_of(*bodies):
+    """A program of these bodies, each function of one cell."""
+    return tuple((1, body) for body in bodies)
+
+
+def sized(*sizes):
+    """A program of functions of these sizes, with plain bodies."""
+    return tuple((size, ARGUMENT) for size in sizes)
+
+
+def nested(others):
+    """A body whose innermost word is within so many others."""
+    body = num(1)
+    for _ in range(others):
+        body = ("say", body)
+    return body
+
+
+def row_of(bodies):
+    """A body that does these in turn, nested as little as may be."""
+    if len(bodies) == 1:
+        return bodies[0]
+    half = len(bodies) // 2
+    return ("then", row_of(bodies[:half]), row_of(bodies[half:]))
+
+
+def body_of(words):
+    """A body of just so many words."""
+    if words == 1:
+        return num(0)
+    if words == 2:
+        return ("say", num(0))
+    half = (words - 1) // 2
+    return ("plus", body_of(half), body_of(words - 1 - half))
+
+
+def counting_down(function, last):
+    """A body that calls its own function with one less, and does the last one at 0."""
+    return ("if", ARGUMENT, ("call", function, ("less", ARGUMENT, ONE)), last)
+
+
+def flat_calls(leaf, count):
+    return [("call", leaf, num(0))] * count
