@@ -20,9 +20,9 @@ def check_program(program):
             raise BadProgram(number)
 
 
-def check_function(program, function):
-    """Refuses what is no function of a program."""
-    if not between(function, 0, len(program) - 1):
+def check_function(function, functions):
+    """Refuses what is no function of so many."""
+    if not between(function, 0, functions - 1):
         raise BadFunction(f"no function {function}")
 
 

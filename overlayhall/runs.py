@@ -38,15 +38,15 @@ class Run:
 
     def begin(self, number):
         """Does function 0 with a number, to its end or to a fault."""
-        self.row.append(0)
         try:
+            self.enter(None, 0)
             self.told = self.worth(0, 0, ("number", number))
         except Fault as fault:
             self.told = ("fault", fault.word)
 
-    def worth(self, function, place, argument):
-        """The worth of the word at this place (function, place), in a call with this argument."""
-        name, given, arms = self.bodies[function][place]
+    def worth(self, function, word, argument):
+        """The worth of the word with this number in a function's body, in a call with this argument."""
+        name, given, arms = self.bodies[function][word]
         if name == "num":
             return ("number", given)
         if name == "way":
@@ -63,9 +63,9 @@ class Run:
         if name == "say":
             return self.say(worths[0])
         if name == "call":
-            return self.call(function, given, worths[0])
+            return self.call((function, word), given, worths[0])
         if name == "through":
-            return self.call(function, end_of_way(worths[0]), worths[1])
+            return self.call((function, word), end_of_way(worths[0]), worths[1])
         return reckoned(name, number_in(worths[0]), number_in(worths[1]))
 
     def say(self, worth):
@@ -73,19 +73,27 @@ class Run:
         self.said.append(number_in(worth))
         return worth
 
-    def call(self, caller, called, argument):
-        """What the called function tells of this argument."""
+    def call(self, place, called, argument):
+        """What the called function tells of this argument, to the word at this place."""
         if self.others >= MOST_OTHERS:
             raise Fault("deep")
         if self.calls >= MOST_CALLS:
             raise Fault("long")
         self.calls += 1
         self.others += 1
-        self.row.append(called)
+        self.enter(place, called)
         told = self.worth(called, 0, argument)
-        self.row.append(caller)
+        self.come_back(place)
         self.others -= 1
         return told
+
+    def enter(self, place, called):
+        """The called function goes on, by the word at this place; function 0 at first by none."""
+        self.row.append(called)
+
+    def come_back(self, place):
+        """The function in which this place is goes on, with what was told to it."""
+        self.row.append(place[0])
 
 
 def number_in(worth):

@@ -10,28 +10,20 @@ NO_PART = -1
 def places(program, tree):
     """For each function its first cell."""
     check_tree(program, tree)
-    firsts = [0] * len(program)
-    for part, begin in zip(tree[0], begins(program, tree)):
-        cell = begin
-        for function in part:
-            firsts[function] = cell
-            cell += program[function][0]
-    return firsts
+    return firsts_of(program, tree)
 
 
 def wanted(program, tree):
     """How many cells the tree wants."""
     check_tree(program, tree)
-    return max([begin + size_of(program, part) for part, begin in zip(tree[0], begins(program, tree))])
+    return end_of(program, tree)
 
 
 def way_down(program, tree, function):
     """The parts on which a function's part lies, from the undermost on, and that part itself."""
     check_tree(program, tree)
-    check_function(program, function)
-    parts, stands = tree
-    own = [number for number, part in enumerate(parts) if function in part]
-    return parts_below(stands, own[0]) + own
+    check_function(function, len(program))
+    return way_of(tree, function)
 
 
 def check_tree(program, tree):
@@ -102,3 +94,26 @@ def begins(program, tree):
     parts, stands = tree
     sizes = [size_of(program, part) for part in parts]
     return [sum([sizes[under] for under in parts_below(stands, part)]) for part in range(len(parts))]
+
+
+def firsts_of(program, tree):
+    """For each function the cell at which it begins in its part."""
+    firsts = [0] * len(program)
+    for part, begin in zip(tree[0], begins(program, tree)):
+        cell = begin
+        for function in part:
+            firsts[function] = cell
+            cell += program[function][0]
+    return firsts
+
+
+def end_of(program, tree):
+    """The cell behind the farthest part."""
+    return max([begin + size_of(program, part) for part, begin in zip(tree[0], begins(program, tree))])
+
+
+def way_of(tree, function):
+    """The numbers of the parts on a function's way down, from the undermost on."""
+    parts, stands = tree
+    own = [number for number, part in enumerate(parts) if function in part]
+    return parts_below(stands, own[0]) + own

@@ -18,6 +18,9 @@ ARMS = {
 # What stands between some words and their arms.
 GIVEN = {"num": "number", "way": "function", "call": "function"}
 
+# The words by which functions are entered.
+CALLS = ("call", "through")
+
 
 def given_of(word):
     """The number that stands in a word ahead of its arms, or None."""

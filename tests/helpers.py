@@ -1,4 +1,6 @@
-"""Programs for the tests, put together from small bodies."""
+"""Programs for the tests, put together from small bodies, and trees."""
+
+import itertools
 
 ARGUMENT = ("argument",)
 ONE = ("num", 1)
@@ -55,3 +57,36 @@ def counting_down(function, last):
 
 def flat_calls(leaf, count):
     return [("call", leaf, num(0))] * count
+
+
+def all_parts(functions):
+    """All ways to put the functions into parts, as the document orders them."""
+    if functions == 0:
+        return [()]
+    last = functions - 1
+    found = []
+    for parts in all_parts(last):
+        found.append(parts + ((last,),))
+        for at, part in enumerate(parts):
+            found.append(parts[:at] + (part + (last,),) + parts[at + 1:])
+    return found
+
+
+def has_ring(stands):
+    for part in range(len(stands)):
+        met = []
+        while part != -1 and part not in met:
+            met.append(part)
+            part = stands[part]
+        if part != -1:
+            return True
+    return False
+
+
+def all_trees(functions):
+    return [
+        (parts, stands)
+        for parts in all_parts(functions)
+        for stands in itertools.product(range(-1, len(parts)), repeat=len(parts))
+        if not has_ring(stands)
+    ]

@@ -8,10 +8,10 @@ import unittest
 
 PACKAGE = os.path.join(os.path.dirname(os.path.dirname(os.path.abspath(__file__))), "overlayhall")
 
-# L8: the builtins that may be used.
+# L8, and L5 for super: the builtins that may be used.
 ALLOWED = set(
     "len range enumerate zip min max sum abs sorted reversed int str bool list tuple dict set isinstance ord repr any "
-    "all divmod pow Exception ValueError TypeError KeyError IndexError LookupError ZeroDivisionError".split()
+    "all divmod pow super Exception ValueError TypeError KeyError IndexError LookupError ZeroDivisionError".split()
 )
 
 # L6, L7: what the language has no room for here.

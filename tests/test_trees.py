@@ -3,44 +3,11 @@
 import itertools
 import unittest
 
-from helpers import sized
+from helpers import all_trees, sized
 from overlayhall.errors import BadFunction, BadTree
 from overlayhall.trees import places, wanted, way_down
 
 FOUR = sized(3, 1, 4, 2)
-
-
-def all_parts(functions):
-    """All ways to put the functions into parts, as the document orders them."""
-    if functions == 0:
-        return [()]
-    last = functions - 1
-    found = []
-    for parts in all_parts(last):
-        found.append(parts + ((last,),))
-        for at, part in enumerate(parts):
-            found.append(parts[:at] + (part + (last,),) + parts[at + 1:])
-    return found
-
-
-def has_ring(stands):
-    for part in range(len(stands)):
-        met = []
-        while part != -1 and part not in met:
-            met.append(part)
-            part = stands[part]
-        if part != -1:
-            return True
-    return False
-
-
-def all_trees(functions):
-    return [
-        (parts, stands)
-        for parts in all_parts(functions)
-        for stands in itertools.product(range(-1, len(parts)), repeat=len(parts))
-        if not has_ring(stands)
-    ]
 
 
 def end_of(program, tree, part):
