@@ -74,12 +74,17 @@ def asked_by(bodies, paper):
 
 def handed_on(words, worths):
     """What the calls and throughs of a body hand on: pairs of the function entered, and what may come to it."""
-    return [
-        (called, worths[arms[-1]])
-        for word, (name, _, arms) in enumerate(words)
-        if name in CALLS
-        for called in entered_by(words, word, worths)
-    ]
+    return [(called, worths[words[word][2][-1]]) for word, entered in entries(words, worths) for called in entered]
+
+
+def entries_by(program, paper):
+    """For each function of a program its calls and throughs, as entries tells them."""
+    return [entries(words, worths_in(words, function, paper)) for function, words in enumerate(numbered(program))]
+
+
+def entries(words, worths):
+    """The calls and throughs of a body: pairs of the word's number, and the functions that it may enter."""
+    return [(word, entered_by(words, word, worths)) for word, (name, _, _) in enumerate(words) if name in CALLS]
 
 
 def worths_in(words, function, paper):

@@ -117,3 +117,31 @@ def way_of(tree, function):
     parts, stands = tree
     own = [number for number, part in enumerate(parts) if function in part]
     return parts_below(stands, own[0]) + own
+
+
+def trees_of(functions):
+    """All trees of a program of so many functions."""
+    stands = [stands_of(parts) for parts in range(functions + 1)]
+    return [(parts, stand) for parts in partitions(functions) for stand in stands[len(parts)]]
+
+
+def stands_of(parts):
+    """All that may tell for each of so many parts on which it stands."""
+    rows = [()]
+    for _ in range(parts):
+        rows = [row + (stand,) for row in rows for stand in range(NO_PART, parts)]
+    return [row for row in rows if stands_fit(row, parts)]
+
+
+def partitions(functions):
+    """All parts in which so many functions may be laid."""
+    found = [()]
+    for function in range(functions):
+        found = [more for parts in found for more in with_function(parts, function)]
+    return found
+
+
+def with_function(parts, function):
+    """All that these parts may become by a function that is greater than all in them."""
+    joined = [parts[:at] + (part + (function,),) + parts[at + 1:] for at, part in enumerate(parts)]
+    return joined + [parts + ((function,),)]

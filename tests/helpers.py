@@ -1,9 +1,13 @@
-"""Programs for the tests, put together from small bodies, and trees."""
+"""Programs for the tests, put together from small bodies, trees and papers."""
 
 import itertools
 
 ARGUMENT = ("argument",)
 ONE = ("num", 1)
+
+# What may be, in a paper.
+NONE = (False, ())
+NUMBER = (True, ())
 
 
 def num(n):
@@ -90,3 +94,26 @@ def all_trees(functions):
         for stands in itertools.product(range(-1, len(parts)), repeat=len(parts))
         if not has_ring(stands)
     ]
+
+
+def ways(*functions):
+    return (False, functions)
+
+
+def all_worths(functions):
+    return [
+        (numbers, found)
+        for numbers in (False, True)
+        for many in range(functions + 1)
+        for found in itertools.combinations(range(functions), many)
+    ]
+
+
+def all_papers(functions):
+    sheets = list(itertools.product(all_worths(functions), repeat=2))
+    return list(itertools.product(sheets, repeat=functions))
+
+
+def full_paper(functions):
+    everything = (True, tuple(range(functions)))
+    return ((everything, everything),) * functions

@@ -249,3 +249,71 @@ def paper_holds(program, paper):
                     if any(not argument <= opened(paper[called][0]) for called in may_enter(paper, function, word)):
                         return False
     return True
+
+
+def closed(program, paper):
+    """The least paper that holds and tells all that this one tells."""
+    told = [[opened(worths) for worths in sheet] for sheet in paper]
+    told[0][0].add("number")
+    before = None
+    while told != before:
+        before = [[set(found) for found in sheet] for sheet in told]
+        now = folded(told)
+        for function, (_, body) in enumerate(program):
+            if told[function][0]:
+                told[function][1] |= may_be(now, function, body)
+                for word in words(body):
+                    if word[0] in ("call", "through"):
+                        for called in may_enter(now, function, word):
+                            told[called][0] |= may_be(now, function, arms(word)[-1])
+    return folded(told)
+
+
+def folded(told):
+    """The paper of rows of sets, as opened tells them."""
+    return tuple(
+        tuple(("number" in found, tuple(sorted(found - {"number"}))) for found in sheet) for sheet in told
+    )
+
+
+def some_papers(seed, program, many):
+    """So many papers of a program that hold: the least, and such as tell more."""
+    chance = random.Random(seed)
+    things = ["number"] + list(range(len(program)))
+    papers = [closed(program, (((False, ()),) * 2,) * len(program))]
+    for more in range(1, many):
+        told = [[opened(worths) for worths in sheet] for sheet in papers[0]]
+        for _ in range(more):
+            chance.choice(chance.choice(told)).add(chance.choice(things))
+        papers.append(closed(program, folded(told)))
+    return papers
+
+
+def plain_shorts(program, tree, paper):
+    """What shorts must tell of a paper that holds."""
+    downs = [way_down(program, tree, function) for function in range(len(program))]
+    entered = {
+        (function, number): may_enter(paper, function, words(program[function][1])[number])
+        for function, number in called_places(program)
+    }
+    ahead, back = [], []
+    for place in sorted(entered):
+        down = downs[place[0]]
+        if not opened(paper[place[0]][0]):
+            continue
+        if all(downs[called][-1] in down for called in entered[place]):
+            ahead.append(place)
+        reached = set(entered[place])
+        for _ in program:
+            reached |= {more for other in entered if other[0] in reached for more in entered[other]}
+        if all(downs[other][-1] in down or down[-1] in downs[other] for other in reached):
+            back.append(place)
+    return (ahead, back)
+
+
+def plain_cost(program, tree, trace):
+    """What cost must tell."""
+    floor = Floor(program, tree)
+    for function in trace:
+        floor.look(function)
+    return floor.brought

@@ -4,13 +4,10 @@ import copy
 import itertools
 import unittest
 
-from helpers import ARGUMENT, ONE, num, program_of, way
+from helpers import ARGUMENT, NONE, NUMBER, ONE, all_papers, full_paper, num, program_of, way, ways
 from overlayhall.errors import BadPaper, BadProgram
 from overlayhall.papers import holds, least_paper
 from reference import Plain, opened, paper_holds, some_programs
-
-NONE = (False, ())
-NUMBER = (True, ())
 
 # 0 goes through the way that 1 tells, and hands a way to 2 there; 2 says a number, and tells what came.
 HANDING = program_of(
@@ -27,24 +24,6 @@ LEAST_HANDING = (
     (NUMBER, NUMBER),
     (NONE, NONE),
 )
-
-
-def ways(*functions):
-    return (False, functions)
-
-
-def all_worths(functions):
-    return [
-        (numbers, found)
-        for numbers in (False, True)
-        for many in range(functions + 1)
-        for found in itertools.combinations(range(functions), many)
-    ]
-
-
-def all_papers(functions):
-    sheets = list(itertools.product(all_worths(functions), repeat=2))
-    return list(itertools.product(sheets, repeat=functions))
 
 
 def with_worths(paper, function, side, worths):
@@ -72,11 +51,6 @@ def within(less, more):
     return all(
         opened(some) <= opened(others) for sheet, other in zip(less, more) for some, others in zip(sheet, other)
     )
-
-
-def full_paper(functions):
-    everything = (True, tuple(range(functions)))
-    return ((everything, everything),) * functions
 
 
 class PaperTest(unittest.TestCase):

@@ -5,7 +5,7 @@ import unittest
 
 from helpers import all_trees, sized
 from overlayhall.errors import BadFunction, BadTree
-from overlayhall.trees import places, wanted, way_down
+from overlayhall.trees import places, trees_of, wanted, way_down
 
 FOUR = sized(3, 1, 4, 2)
 
@@ -109,6 +109,13 @@ class TreeTest(unittest.TestCase):
             except BadTree:
                 pass
         self.assertEqual(sorted(accepted), sorted(trees))
+
+
+    def test_point_6_the_trees_that_are_tried_are_all_trees(self):
+        for functions in range(1, 6):
+            trees = trees_of(functions)
+            self.assertEqual(len(set(trees)), len(trees))
+            self.assertEqual(sorted(trees), sorted(all_trees(functions)))
 
 
 class PlacesTest(unittest.TestCase):
