@@ -78,8 +78,12 @@ def handed_on(words, worths):
 
 
 def entries_by(program, paper):
-    """For each function of a program its calls and throughs, as entries tells them."""
-    return [entries(words, worths_in(words, function, paper)) for function, words in enumerate(numbered(program))]
+    """For each function of a program its calls and throughs, as entries tells them: none, if nothing may come to it."""
+    # What is never entered enters none, whatever its body names.
+    return [
+        entries(words, worths_in(words, function, paper)) if paper[function][0] != NOTHING else []
+        for function, words in enumerate(numbered(program))
+    ]
 
 
 def entries(words, worths):

@@ -1,7 +1,7 @@
 """Calls and returns that need no look, by a paper that holds."""
 
 from overlayhall.errors import NotShown
-from overlayhall.papers import NOTHING, entries_by, holds
+from overlayhall.papers import entries_by, holds
 from overlayhall.trees import check_tree, way_of
 
 
@@ -12,12 +12,7 @@ def shorts(program, tree, paper):
         raise NotShown("the paper doesn't hold")
     entries = entries_by(program, paper)
     ways = [way_of(tree, function) for function in range(len(program))]
-    asked = [
-        (function, word, entered)
-        for function, calls in enumerate(entries)
-        if paper[function][0] != NOTHING
-        for word, entered in calls
-    ]
+    asked = [(function, word, entered) for function, calls in enumerate(entries) for word, entered in calls]
     ahead = [(function, word) for function, word, entered in asked if all_there(ways, function, entered)]
     back = [
         (function, word)

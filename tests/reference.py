@@ -292,15 +292,15 @@ def some_papers(seed, program, many):
 def plain_shorts(program, tree, paper):
     """What shorts must tell of a paper that holds."""
     downs = [way_down(program, tree, function) for function in range(len(program))]
+    # Only in functions to which anything may come, which tells both the places and by whom others may be entered.
     entered = {
         (function, number): may_enter(paper, function, words(program[function][1])[number])
         for function, number in called_places(program)
+        if opened(paper[function][0])
     }
     ahead, back = [], []
     for place in sorted(entered):
         down = downs[place[0]]
-        if not opened(paper[place[0]][0]):
-            continue
         if all(downs[called][-1] in down for called in entered[place]):
             ahead.append(place)
         reached = set(entered[place])

@@ -243,14 +243,77 @@ class PapersTest(unittest.TestCase):
         paper = ((NUMBER, NUMBER), (NUMBER, NUMBER), (NONE, (True, (0, 1, 2))))
         self.assertEqual(shorts(program, TOGETHER, paper), ([(0, 0)], [(0, 0)]))
 
-    def test_point_13_a_call_is_taken_to_enter_whom_it_names(self):
-        # 0 never tells, so that nothing may come to 1: its places aren't told, but 0 is taken to enter it, and it 2.
+    def test_point_13_who_is_entered_by_name_alone_enters_none(self):
+        # 0 never tells, so that nothing may come to 1: 0 is taken to enter it, but it is not taken to enter 2.
         program = program_of(("call", 1, ("call", 0, ARGUMENT)), ("call", 2, ONE), ARGUMENT)
         self.assertEqual(least_paper(program), ((NUMBER, NONE), (NONE, NONE), (NONE, NONE)))
         self.assertEqual(least_shorts(program, TOGETHER), ([(0, 0), (0, 1)],) * 2)
         self.assertEqual(least_shorts(program, ON_ZERO), ([(0, 1)], [(0, 0), (0, 1)]))
-        self.assertEqual(least_shorts(program, PAIR_AND_TWO), ([(0, 0), (0, 1)], []))
+        self.assertEqual(least_shorts(program, PAIR_AND_TWO), ([(0, 0), (0, 1)],) * 2)
+        self.assertEqual(least_shorts(program, ONE_ON_ZERO), ([(0, 1)], [(0, 0), (0, 1)]))
+        # 1 itself counts, wherever it is entered: here it is laid over 0.
         self.assertEqual(least_shorts(program, APART), ([(0, 1)], []))
+        self.assertEqual(least_shorts(program, TWO_ON_ZERO), ([(0, 1)], []))
+
+    def test_point_13_who_is_entered_by_name_alone_enters_2_if_a_paper_lets_anything_come(self):
+        program = program_of(("call", 1, ("call", 0, ARGUMENT)), ("call", 2, ONE), ARGUMENT)
+        paper = ((NUMBER, NUMBER), (NUMBER, NUMBER), (NUMBER, NUMBER))
+        self.assertEqual(shorts(program, PAIR_AND_TWO, paper), ([(0, 0), (0, 1)], []))
+        self.assertEqual(shorts(program, ONE_ON_ZERO, paper), ([(0, 1)], []))
+        self.assertEqual(shorts(program, ON_ZERO, paper), ([(0, 1)], [(0, 0), (0, 1)]))
+        # A way alone may come to 1, whose calls count by that.
+        program = program_of(
+            ("call", 1, ("call", 0, ARGUMENT)), ("then", ("call", 2, ONE), ("call", 0, ONE)), ARGUMENT
+        )
+        self.assertEqual(least_shorts(program, PAIR_AND_TWO), ([(0, 0), (0, 1)],) * 2)
+        paper = ((NUMBER, NONE), (ways(0), NONE), (NUMBER, NUMBER))
+        self.assertEqual(shorts(program, PAIR_AND_TWO, paper), ([(0, 0), (0, 1), (1, 3)], []))
+        # Something may come to 2 alone, which 1 is still not taken to enter.
+        paper = ((NUMBER, NONE), (NONE, NONE), (NUMBER, NUMBER))
+        self.assertEqual(shorts(program, PAIR_AND_TWO, paper), ([(0, 0), (0, 1)],) * 2)
+
+    def test_point_13_who_is_entered_through_a_way_and_never_comes_enters_none(self):
+        # 2 never tells, so that nothing comes to 1, whose part stands on that of 0; 2 is by itself.
+        program = program_of(
+            ("then", ("through", way(1), ("call", 2, ONE)), ARGUMENT), ("call", 2, num(0)), ("call", 2, ARGUMENT)
+        )
+        self.assertEqual(least_paper(program), ((NUMBER, NUMBER), (NONE, NONE), (NUMBER, NONE)))
+        self.assertEqual(least_shorts(program, ONE_ON_ZERO), ([(2, 0)], [(0, 1), (2, 0)]))
+        self.assertEqual(least_shorts(program, PAIR_AND_TWO), ([(0, 1), (2, 0)],) * 2)
+        self.assertEqual(least_shorts(program, APART), ([(2, 0)], [(2, 0)]))
+        self.assertEqual(least_shorts(program, RISING), ([(2, 0)], [(0, 1), (0, 3), (2, 0)]))
+        # Nothing comes to 1 by what 2 tells, so its through enters none either.
+        program = program_of(
+            ("then", ("call", 1, ("call", 2, ONE)), ARGUMENT), ("through", way(2), ONE), ("call", 2, ARGUMENT)
+        )
+        self.assertEqual(least_shorts(program, ONE_ON_ZERO), ([(2, 0)], [(0, 1), (2, 0)]))
+
+    def test_point_13_who_never_comes_far_down_the_calls(self):
+        # 0 calls 1, to which a number comes, and that 2, to which nothing does, since 4 never tells; 2 names 3.
+        program = program_of(
+            ("call", 1, ARGUMENT),
+            ("call", 2, ("call", 4, ARGUMENT)),
+            ("call", 3, ("through", way(3), ARGUMENT)),
+            ARGUMENT,
+            ("call", 4, ARGUMENT),
+        )
+        came = [sheet[0] for sheet in least_paper(program)]
+        self.assertEqual(came, [NUMBER, NUMBER, NONE, NONE, NUMBER])
+        # 3 is laid over all others, but none enters it.
+        tree = (((0, 1, 2, 4), (3,)), (-1, -1))
+        self.assertEqual(least_shorts(program, tree), ([(0, 0), (1, 0), (1, 1), (4, 0)],) * 2)
+        # 2 is laid over all others, and entered.
+        tree = (((0, 1, 3, 4), (2,)), (-1, -1))
+        self.assertEqual(least_shorts(program, tree), ([(0, 0), (1, 1), (4, 0)], [(1, 1), (4, 0)]))
+
+    def test_point_13_who_never_comes_and_is_entered_by_others_as_well(self):
+        # 1 never comes, and names 2; so does 0, whose own call of 2 counts.
+        program = program_of(
+            ("then", ("call", 2, ARGUMENT), ("call", 1, ("call", 0, ARGUMENT))), ("call", 2, ONE), ARGUMENT
+        )
+        self.assertEqual(least_shorts(program, TOGETHER), ([(0, 1), (0, 3), (0, 4)],) * 2)
+        # 0 enters 2 as well, so that its call of itself wants a look.
+        self.assertEqual(least_shorts(program, PAIR_AND_TWO), ([(0, 3), (0, 4)], [(0, 3)]))
 
     def test_point_13_if_a_paper_lets_a_number_or_a_way_come(self):
         for came in (NUMBER, ways(0), (True, (0, 1, 2))):
